@@ -1,0 +1,1 @@
+"""Freetops: rows of polynomials whose tops never cancel."""
