@@ -22,6 +22,13 @@ def check_lifts(lifts):
             raise InvalidLifts(at)
 
 
+def check_lifts_of(many, lifts):
+    """Raises unless any value is a list or tuple of so many numbers, one or more."""
+    if not isinstance(lifts, (list, tuple)) or len(lifts) != many:
+        raise InvalidLifts(-1)
+    check_lifts(lifts)
+
+
 def check_rows(prime, places, rows):
     """Raises unless any value is a list or tuple of rows with so many places."""
     if not isinstance(rows, (list, tuple)):

@@ -3,7 +3,7 @@
 from freetops.checks import check_full, listed_many
 from freetops.division import power_remainder
 from freetops.errors import InvalidNumber, InvalidRow
-from freetops.forms import form_of
+from freetops.figures import forms_of_number, number_of_forms
 from freetops.numbers import is_number
 from freetops.rows import is_row, row_times
 from freetops.tables import determinant
@@ -12,9 +12,10 @@ from freetops.tables import determinant
 def rest_at(span, number):
     """The rest with a number."""
     check_full(span)
-    if not is_number(number, 0, _rest_many(span) - 1):
+    rest = forms_of_number(span.prime, number, _lead_degrees(span))
+    if rest is None:
         raise InvalidNumber(number)
-    return _rest_with(span, number)
+    return rest
 
 
 def number_of_rest(span, rest):
@@ -22,18 +23,14 @@ def number_of_rest(span, rest):
     check_full(span)
     if not _is_rest(span, rest):
         raise InvalidRow(0)
-    number = 0
-    for form, degree in reversed(list(zip(rest, _lead_degrees(span)))):
-        for at in range(degree - 1, -1, -1):
-            number = number * span.prime + (form[at] if at < len(form) else 0)
-    return number
+    return number_of_forms(span.prime, rest, _lead_degrees(span))
 
 
 def rests(span):
     """All rests, by their numbers."""
     check_full(span)
     for number in range(listed_many(span.prime, span.size)):
-        yield _rest_with(span, number)
+        yield forms_of_number(span.prime, number, _lead_degrees(span))
 
 
 def power_rest(span, number, row):
@@ -52,24 +49,6 @@ def _lead_degrees(span):
     """For each place, the degree of the form of the key row that has its lead there."""
     degrees = {lead: len(row[lead]) - 1 for row, lead in zip(span.key(), span.leads())}
     return [degrees[place] for place in range(span.places)]
-
-
-def _rest_many(span):
-    many = 1
-    for _ in range(span.size):
-        many = many * span.prime
-    return many
-
-
-def _rest_with(span, number):
-    forms = []
-    for degree in _lead_degrees(span):
-        figures = []
-        for _ in range(degree):
-            figures.append(number % span.prime)
-            number = number // span.prime
-        forms.append(form_of(span.prime, figures))
-    return tuple(forms)
 
 
 def _is_rest(span, value):

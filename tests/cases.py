@@ -4,7 +4,7 @@ import itertools
 import random
 import unittest
 
-from freetops.forms import form_of
+from freetops.forms import form_of, multiply
 from freetops.rows import add_rows, row_times, zero_row
 from freetops.spans import Span
 
@@ -70,6 +70,79 @@ def drawn_lifts(draw, places):
     if draw.random() < 0.3:
         return (0,) * places
     return tuple(draw.randrange(-20, 21) for _ in range(places))
+
+
+def drawn_span(draw, primes=tuple(PRIMES), places=None, degree=4):
+    """A span of any rank, of more or fewer rows than places."""
+    prime = draw.choice(primes)
+    many = places or draw.randrange(1, 7)
+    return Span(prime, drawn_lifts(draw, many), drawn_rows(draw, prime, many, draw.randrange(9), degree))
+
+
+def thin_span(draw, primes=tuple(PRIMES), degree=3):
+    """A span that is often not full, and often not whole."""
+    prime = draw.choice(primes)
+    places = draw.randrange(1, 5)
+    rows = [drawn_row(draw, prime, places, degree) for _ in range(draw.randrange(places + 1))]
+    rows = [row_times(prime, row, drawn_form(draw, prime, 2) or (1,)) for row in rows]
+    return Span(prime, drawn_lifts(draw, places), rows)
+
+
+def full_span(draw, primes=tuple(PRIMES), degree=4, places=None):
+    while True:
+        prime = draw.choice(primes)
+        many = places or draw.randrange(1, 7)
+        rows = [drawn_row(draw, prime, many, degree) for _ in range(many)]
+        span = Span(prime, drawn_lifts(draw, many), rows)
+        if span.size is not None:
+            return span
+
+
+def drawn_condition(draw, prime, places, depth=6, degree=4):
+    return draw.randrange(prime), drawn_row(draw, prime, places, degree), draw.randrange(1, depth + 1)
+
+
+def row_in(draw, span, degree=3):
+    """A row of the span."""
+    row = zero_row(span.places)
+    for head in span.key():
+        row = add_rows(span.prime, row, row_times(span.prime, head, drawn_form(draw, span.prime, degree)))
+    return row
+
+
+def power_of(prime, form, number):
+    """form ** number, multiplied out."""
+    power = (1,)
+    for _ in range(number):
+        power = multiply(prime, power, form)
+    return power
+
+
+def levels_of(span):
+    return list(zip(span.heights, span.leads()))
+
+
+def state_of(span):
+    """All that tells a span, to see that it has not changed."""
+    return span.prime, span.lifts, span.key()
+
+
+def bent(value):
+    """Values like a tuple or list, at any depth, but with one place bent."""
+    yield from (None, True, 7, "row", [])
+    if isinstance(value, (tuple, list)):
+        make = type(value)
+        yield value[:-1] if value else make([0])
+        yield value + make([()])
+        if make is tuple:
+            yield list(value)
+        for at, item in enumerate(value):
+            for other in bent(item):
+                yield value[:at] + make([other]) + value[at + 1:]
+    elif isinstance(value, str):
+        yield value + "s"
+    elif isinstance(value, int):
+        yield from (value + 1, value == 1, -1, 100)
 
 
 def forms_below(prime, many):

@@ -1,17 +1,10 @@
 import unittest
 
-from cases import PRIMES, Case, drawing, drawn_form, forms_below
+from cases import PRIMES, Case, drawing, drawn_form, forms_below, power_of
 from freetops.division import divides
 from freetops.errors import SamePoint
 from freetops.formpoints import digits_at, form_through, from_digits, multiplicity, roots, vanishing_at
 from freetops.forms import add, form_of, multiply, scaled, value_at
-
-
-def power(prime, form, many):
-    total = (1,)
-    for _ in range(many):
-        total = multiply(prime, total, form)
-    return total
 
 
 class FormPoints(Case):
@@ -25,7 +18,7 @@ class FormPoints(Case):
             self.assertEqual(len(digits), len(form))
             total = ()
             for at, digit in enumerate(digits):
-                part = scaled(prime, power(prime, form_of(prime, [-point, 1]), at), digit)
+                part = scaled(prime, power_of(prime, form_of(prime, [-point, 1]), at), digit)
                 total = add(prime, total, part)
             self.same(total, form)
             self.same(from_digits(prime, digits, point), form)
@@ -45,11 +38,11 @@ class FormPoints(Case):
             prime = draw.choice([2, 3, 5, 97])
             point = draw.randrange(prime)
             line = form_of(prime, [-point, 1])
-            form = multiply(prime, power(prime, line, draw.randrange(4)), drawn_form(draw, prime, 4))
+            form = multiply(prime, power_of(prime, line, draw.randrange(4)), drawn_form(draw, prime, 4))
             if not form:
                 self.assertIsNone(multiplicity(prime, form, point))
                 continue
-            most = max(e for e in range(9) if divides(prime, power(prime, line, e), form))
+            most = max(e for e in range(9) if divides(prime, power_of(prime, line, e), form))
             self.same(multiplicity(prime, form, point), most)
 
     def test_multiplicity(self):

@@ -27,6 +27,21 @@ FUNCTIONS = {
     "spans": ["all_rows(prime, lifts)", "have_same_rows(one, other)"],
     "members": ["are_alike(one, other)", "told_apart(one, other)"],
     "rests": ["rest_at(span, number)", "number_of_rest(span, rest)", "rests(span)", "power_rest(span, number, row)"],
+    "conditions": ["is_condition(prime, places, value)", "meets(prime, row, condition)", "cut(span, *conditions)",
+                   "steps(span, condition)"],
+    "lifting": ["lifted(span, lifts)", "lift_place(span, place, by=1)", "walk(span, lifts)"],
+    "growth": ["played(span, deeds)"],
+    "meets": ["relations(prime, rows, lifts)", "sum_of(first, *others)", "meet_of(first, *others)"],
+    "whole": ["is_whole(span)", "closure(span)", "index_form(span)", "whole_paper(span)", "is_whole_paper(span, value)"],
+    "across": ["across(span)"],
+    "counting": ["free_number(span, *, within)", "row_at(span, number, *, within)", "number_of(span, row, *, within)",
+                 "rows_up_to(span, *, within)"],
+    "opposites": ["least_form(span)", "fits(span, form)", "opposite(span, *, by=None)"],
+    "readings": ["reads_zero(reading, span)"],
+    "near": ["nearest(span, row)", "near_paper(span, row, *, within)", "is_near_paper(span, row, value, *, within)"],
+    "reach": ["reach(span)", "deepest(span)", "all_near(span, *, within)"],
+    "pairing": ["pairing(one, other)"],
+    "denominators": ["fraction_span(prime, forms, by, lifts)", "denominator_row(span)"],
 }
 CLASSES = {
     ("folding", "Folding"): ["__init__(self, prime, lifts, rows)", "base(self)", "ways(self)", "backs(self)",
@@ -35,7 +50,17 @@ CLASSES = {
                         "way_of(self, row)", "__contains__(self, row)", "__add__(self, other)",
                         "is_within(self, other)", "text(self)", "__str__(self)", "__eq__(self, other)",
                         "__len__(self)", "__bool__(self)", "__repr__(self)"],
+    ("growth", "Growth"): ["__init__(self, span)", "span(self)", "first(self)", "put(self, row)", "cut(self, condition)",
+                           "lift(self, place, by=1)", "undo(self)", "redo(self)", "history(self)", "deeds(self)",
+                           "twin(self)", "__repr__(self)"],
+    ("readings", "Reading"): ["__init__(self, prime, by, row)", "__call__(self, other)"],
+    ("letters", "LetterRoom"): ["__init__(self, prime, width, columns=())", "put(self, *letters)", "take_back(self)",
+                                "columns(self)", "span(self)", "walk(self)", "twin(self)", "__add__(self, other)",
+                                "__eq__(self, other)", "__len__(self)", "__bool__(self)", "__repr__(self)"],
 }
+PROPERTIES = {("spans", "Span"): ["heights"], ("growth", "Growth"): ["heights"],
+              ("letters", "LetterRoom"): ["heights", "least_order"]}
+GENERATORS = {"rests": "rests", "lifting": "walk", "counting": "rows_up_to"}
 
 
 class Interface(unittest.TestCase):
@@ -56,14 +81,19 @@ class Interface(unittest.TestCase):
                 self.assertEqual(method.__name__ + str(inspect.signature(method)), entry)
 
     def test_properties_and_static_methods(self):
+        for (module, name), entries in PROPERTIES.items():
+            found = getattr(importlib.import_module(f"freetops.{module}"), name)
+            for entry in entries:
+                self.assertIsInstance(vars(found)[entry], property)
         span = importlib.import_module("freetops.spans").Span
-        self.assertIsInstance(vars(span)["heights"], property)
         self.assertIsInstance(vars(span)["read"], staticmethod)
         self.assertEqual(str(inspect.signature(span.read)), "(text)")
 
     def test_generators(self):
-        rests = importlib.import_module("freetops.rests").rests
-        self.assertTrue(inspect.isgeneratorfunction(rests))
+        for module, name in GENERATORS.items():
+            found = getattr(importlib.import_module(f"freetops.{module}"), name)
+            self.assertTrue(inspect.isgeneratorfunction(found))
+        self.assertTrue(inspect.isgeneratorfunction(importlib.import_module("freetops.letters").LetterRoom.walk))
 
 
 if __name__ == "__main__":

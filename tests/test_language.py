@@ -126,6 +126,19 @@ class Language(unittest.TestCase):
             if isinstance(node.func, ast.Attribute):
                 self.assertIn(node.func.attr, [*METHODS, *own], f"{name}:{node.lineno}")
 
+    def test_names_of_generators_are_theirs_alone(self):
+        functions = [(node.name, any(isinstance(item, ast.Yield) for item in ast.walk(node)))
+                     for _, node in self.each(ast.FunctionDef)]
+        generators = {name for name, yields in functions if yields}
+        self.assertFalse([name for name, yields in functions if name in generators and not yields])
+        self.assertFalse(generators & set(METHODS))
+
+    def test_no_name_is_a_method_and_an_attribute(self):
+        methods = {item.name for _, node in self.each(ast.ClassDef) for item in node.body
+                   if isinstance(item, ast.FunctionDef)}
+        attributes = {node.attr for _, node in self.each(ast.Attribute) if isinstance(node.ctx, ast.Store)}
+        self.assertFalse(methods & attributes)
+
     def test_sets_are_only_measured(self):
         for name, node in self.each(ast.Set, ast.SetComp):
             self.fail(f"{name}:{node.lineno}")

@@ -1,6 +1,6 @@
 import unittest
 
-from cases import PRIMES, WRONG, Case, drawing, drawn_lifts, drawn_row
+from cases import WRONG, Case, drawing, drawn_row, full_span
 from freetops.errors import InvalidNumber, InvalidRow, LowRank, TooMany
 from freetops.forms import form_of, raised
 from freetops.rests import number_of_rest, power_rest, rest_at, rests
@@ -9,16 +9,6 @@ from freetops.spans import Span, all_rows
 
 SPAN = Span(5, (0, 0), [((0, 1), (3,)), ((2,), (0, 1))])
 LINE = Span(5, (0, 0), [((0, 1), (0, 1))])
-
-
-def full_span(draw, primes=tuple(PRIMES), degree=4, places=None):
-    while True:
-        prime = draw.choice(primes)
-        many = places or draw.randrange(1, 7)
-        rows = [drawn_row(draw, prime, many, degree) for _ in range(many)]
-        span = Span(prime, drawn_lifts(draw, many), rows)
-        if span.size is not None:
-            return span
 
 
 class Numbers(Case):

@@ -1,6 +1,7 @@
 import unittest
 
-from cases import PRIMES, WRONG, Case, all_combinations, drawing, drawn_form, drawn_lifts, drawn_row, drawn_rows, rows_below
+from cases import (PRIMES, WRONG, Case, all_combinations, drawing, drawn_form, drawn_lifts, drawn_row, drawn_rows,
+                   drawn_span, rows_below)
 from freetops.errors import InvalidLifts, InvalidRow, NotIn, NotPrime, Unlike
 from freetops.forms import degree_of
 from freetops.rows import (add_rows, combined, height_of, lead_of, level_of, row_times, subtract_rows, top_of,
@@ -11,12 +12,6 @@ from freetops.tops import are_apart
 
 SPAN = Span(5, (0, 0), [((1, 0, 1), (0, 1)), ((0, 0, 0, 1), (2, 0, 1))])
 LINE = Span(5, (0, 0), [((0, 1), (0, 1))])
-
-
-def drawn_span(draw, primes=tuple(PRIMES)):
-    prime = draw.choice(primes)
-    places = draw.randrange(1, 7)
-    return Span(prime, drawn_lifts(draw, places), drawn_rows(draw, prime, places, draw.randrange(9), 4))
 
 
 class Keys(Case):
