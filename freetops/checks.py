@@ -1,7 +1,7 @@
 """Checks of arguments that several modules share. Each raises the error of the first fault."""
 
-from freetops.errors import InvalidLifts, InvalidRow, LowRank, NotPrime, TooMany
-from freetops.numbers import is_any_number, is_prime
+from freetops.errors import InvalidLifts, InvalidNumber, InvalidPoint, InvalidRow, LowRank, NotPrime, SamePoint, TooMany
+from freetops.numbers import is_any_number, is_number, is_prime, is_residue
 from freetops.rows import is_row
 
 MOST_LISTED = 4096
@@ -11,6 +11,12 @@ def check_prime(prime):
     """Raises for any value that is no prime."""
     if not is_prime(prime):
         raise NotPrime(prime)
+
+
+def check_number(value, least, most):
+    """Raises for any value that is no number from least to most."""
+    if not is_number(value, least, most):
+        raise InvalidNumber(value)
 
 
 def check_lifts(lifts):
@@ -43,6 +49,25 @@ def check_span(prime, lifts, rows):
     check_prime(prime)
     check_lifts(lifts)
     check_rows(prime, len(lifts), rows)
+
+
+def check_pairs(prime, pairs):
+    """Raises unless any value is a list or tuple of pairs of residues with different first ones."""
+    if not isinstance(pairs, (list, tuple)):
+        raise InvalidPoint(-1)
+    for at, pair in enumerate(pairs):
+        if not isinstance(pair, tuple) or len(pair) != 2 or not all([is_residue(prime, item) for item in pair]):
+            raise InvalidPoint(at)
+    check_different(pairs)
+
+
+def check_different(pairs):
+    """Raises for the first pair that begins with the same residue as an earlier one."""
+    earlier = set()
+    for pair in pairs:
+        if pair[0] in earlier:
+            raise SamePoint(pair[0])
+        earlier.add(pair[0])
 
 
 def check_full(span):

@@ -72,5 +72,5 @@ def _is_far_pair(span, row, form, weights, within):
     around = opposite(span, by=form)
     if weights not in around or not _is_low(weights, around.lifts, _most_height(form, within)):
         return False
-    reading = Reading(span.prime, form, weights)
-    return reading(row) != 0
+    telling = Reading(span.prime, form, weights)
+    return telling.reading(row) != 0

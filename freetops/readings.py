@@ -23,7 +23,7 @@ class Reading:
         self.by = by
         self.row = row
 
-    def __call__(self, other):
+    def reading(self, other):
         """The residue that it reads at a row."""
         if not is_row(self.prime, len(self.row), other):
             raise InvalidRow(0)
@@ -32,6 +32,10 @@ class Reading:
         if degree == 0 or len(rest) < degree:
             return 0
         return rest[-1] * inverse(self.prime, self.by[-1]) % self.prime
+
+    def __call__(self, other):
+        """The same as `reading`."""
+        return self.reading(other)
 
 
 def reads_zero(reading, span):

@@ -6,7 +6,12 @@ from freetops.numbers import is_any_number
 
 def is_row(prime, places, value):
     """Whether any value is a row with this number of places, one or more."""
-    if not isinstance(value, tuple) or len(value) != places or value == ():
+    return are_forms(prime, places, value) and value != ()
+
+
+def are_forms(prime, many, value):
+    """Whether any value is a tuple of so many forms, also of none."""
+    if not isinstance(value, tuple) or len(value) != many:
         return False
     return all([is_form(prime, item) for item in value])
 

@@ -3,7 +3,7 @@
 from freetops.folding import Folding
 from freetops.forms import is_form, monic_of
 from freetops.relating import across_rows
-from freetops.rows import is_row, row_times
+from freetops.rows import are_forms, is_row, row_times
 from freetops.spans import Span
 from freetops.tables import determinant, multiply_tables, turned_table, unit_table
 
@@ -59,16 +59,9 @@ def is_whole_paper(span, value):
 def _is_inverse_table(span, value):
     if not isinstance(value, (list, tuple)) or len(value) != span.places:
         return False
-    if not all([_are_forms(span.prime, span.rank, row) for row in value]):
+    if not all([are_forms(span.prime, span.rank, row) for row in value]):
         return False
     return multiply_tables(span.prime, span.key(), value) == unit_table(span.rank)
-
-
-def _are_forms(prime, many, value):
-    """Whether any value is a tuple of so many forms, also of none."""
-    if not isinstance(value, tuple) or len(value) != many:
-        return False
-    return all([is_form(prime, item) for item in value])
 
 
 def _is_open_pair(span, form, row):

@@ -42,6 +42,25 @@ FUNCTIONS = {
     "reach": ["reach(span)", "deepest(span)", "all_near(span, *, within)"],
     "pairing": ["pairing(one, other)"],
     "denominators": ["fraction_span(prime, forms, by, lifts)", "denominator_row(span)"],
+    "rules": ["is_rule(room, value)", "free_rules(room, *, order)", "rules(room, *, order)",
+              "told_columns(room, *, order)", "least_rule(room)", "sure_column(room)", "far_column(room, number)"],
+    "answers": ["is_answer(room, value, *, faults)", "faults_of(room, answer)", "answers(room, *, faults)",
+                "fewest_faults(room)"],
+    "shares": ["secrets(room, *, faults)", "sure_liars(room, *, faults)", "sure_points(room, *, faults)"],
+    "vanishing": ["vanishing_span(prime, pairs, *, bound, times, most)", "row_value(prime, row, form)",
+                  "vanishes(prime, row, pair, times)"],
+    "digits": ["residual(prime, row, prefix)", "next_digits(prime, row, prefix)",
+               "live_prefixes(prime, row, *, bound)", "forms_of_row(prime, row, *, bound)"],
+    "lists": ["forms_meeting(prime, pairs, *, bound, met)", "lowest_heights(prime, pairs, *, bound, times)",
+              "met_by(prime, pairs, form)"],
+    "curves": ["standard(prime, point)"],
+    "twosided": ["is_two_sided(prime, value)", "two_sided(form, low=0)", "add_two(prime, one, other)",
+                 "multiply_two(prime, one, other)", "is_upward(two)", "is_downward(two)",
+                 "multiply_twos(prime, one, other)", "determinant_two(prime, table)"],
+    "gluedalike": ["glued_alike(one, other)", "alike_pair(one, other)", "is_alike_pair(one, other, value)",
+                   "differing_height(one, other)"],
+    "questions": ["is_question(prime, value)"],
+    "benchtexts": ["write_bench(bench)", "read_bench(text)", "played_journal(prime, journal)"],
 }
 CLASSES = {
     ("folding", "Folding"): ["__init__(self, prime, lifts, rows)", "base(self)", "ways(self)", "backs(self)",
@@ -53,13 +72,33 @@ CLASSES = {
     ("growth", "Growth"): ["__init__(self, span)", "span(self)", "first(self)", "put(self, row)", "cut(self, condition)",
                            "lift(self, place, by=1)", "undo(self)", "redo(self)", "history(self)", "deeds(self)",
                            "twin(self)", "__repr__(self)"],
-    ("readings", "Reading"): ["__init__(self, prime, by, row)", "__call__(self, other)"],
+    ("readings", "Reading"): ["__init__(self, prime, by, row)", "reading(self, other)"],
     ("letters", "LetterRoom"): ["__init__(self, prime, width, columns=())", "put(self, *letters)", "take_back(self)",
                                 "columns(self)", "span(self)", "walk(self)", "twin(self)", "__add__(self, other)",
                                 "__eq__(self, other)", "__len__(self)", "__bool__(self)", "__repr__(self)"],
+    ("points", "PointRoom"): ["__init__(self, prime, width, bound, heard=())", "put(self, point, *letters)",
+                              "lose(self, point)", "heard(self)", "span(self)", "twin(self)",
+                              "__contains__(self, point)", "__eq__(self, other)", "__len__(self)", "__bool__(self)",
+                              "__repr__(self)"],
+    ("curves", "Curve"): ["__init__(self, prime, forms)", "lines(self)", "point_at(self, time)",
+                          "meeting_form(self, point)", "visits(self, point)", "multipliers(self, point)",
+                          "crossings(self)", "turned(self, table)", "backward(self)", "begun_at(self, by)",
+                          "__eq__(self, other)", "__repr__(self)"],
+    ("gluings", "Gluing"): ["__init__(self, prime, table)", "table(self)", "span(self)", "splitting(self)",
+                            "is_splitting(self, value)", "sections(self, *, within)", "__add__(self, other)",
+                            "__mul__(self, other)", "moved(self, by)", "about(self)", "__eq__(self, other)",
+                            "__repr__(self)"],
+    ("bench", "Bench"): ["__init__(self, prime)", "do(self, *deeds)", "undo(self)", "redo(self)", "history(self)",
+                         "journal(self)", "begin_draft(self)", "keep_draft(self)", "give_up(self)",
+                         "tried(self, *deeds)", "names(self)", "kind_of(self, name)", "holding(self, name)",
+                         "__contains__(self, name)", "__len__(self)", "__bool__(self)", "paper(self, question)",
+                         "is_right(self, question, value)", "keep(self, question)", "kept(self, number)",
+                         "is_good(self, number)", "say(self, line)", "__call__(self, line)", "log(self)",
+                         "text(self)", "twin(self)", "__eq__(self, other)", "__repr__(self)"],
 }
 PROPERTIES = {("spans", "Span"): ["heights"], ("growth", "Growth"): ["heights"],
-              ("letters", "LetterRoom"): ["heights", "least_order"]}
+              ("letters", "LetterRoom"): ["heights", "least_order"], ("points", "PointRoom"): ["heights"],
+              ("gluings", "Gluing"): ["heights"], ("bench", "Bench"): ["in_draft"]}
 GENERATORS = {"rests": "rests", "lifting": "walk", "counting": "rows_up_to"}
 
 
@@ -94,6 +133,11 @@ class Interface(unittest.TestCase):
             found = getattr(importlib.import_module(f"freetops.{module}"), name)
             self.assertTrue(inspect.isgeneratorfunction(found))
         self.assertTrue(inspect.isgeneratorfunction(importlib.import_module("freetops.letters").LetterRoom.walk))
+        self.assertTrue(inspect.isgeneratorfunction(importlib.import_module("freetops.gluings").Gluing.sections))
+
+    def test_kinds(self):
+        found = importlib.import_module("freetops.questions").KINDS
+        self.assertEqual(found, ("span", "letters", "points", "curve"))
 
 
 if __name__ == "__main__":

@@ -3,6 +3,7 @@
 import ast
 import builtins
 import pathlib
+import re
 import unittest
 
 PACKAGE = pathlib.Path(__file__).resolve().parent.parent / "freetops"
@@ -16,6 +17,10 @@ isupper items join keys ljust lower lstrip partition pop remove replace reverse 
 setdefault split splitlines startswith strip update upper values zfill bit_length title capitalize removeprefix
 removesuffix rindex add discard""".split()
 LIBRARY = {"heapq", "math", "itertools", "collections"}
+# words that no file may have outside of comments and docstrings, and names that nothing may have
+WORDS = """type typing typing_extensions enum Enum IntEnum StrEnum Flag IntFlag Generic Protocol ABC ABCMeta namedtuple
+NamedTuple TypedDict TYPE_CHECKING abstractmethod""".split()
+NAMES = "register mro elements open input law version_info with_traceback add_note".split()
 STATEMENTS = (ast.FunctionDef, ast.ClassDef, ast.Assign, ast.AugAssign, ast.If, ast.While, ast.For, ast.Return,
               ast.Break, ast.Continue, ast.Pass, ast.Raise, ast.Assert, ast.Delete, ast.Nonlocal, ast.Expr,
               ast.ImportFrom, ast.Try, ast.With, ast.Match)
@@ -114,11 +119,33 @@ class Language(unittest.TestCase):
             bound = {node.id for node in ast.walk(tree) if isinstance(node, ast.Name) and isinstance(node.ctx, ast.Store)}
             bound |= {node.arg for node in ast.walk(tree) if isinstance(node, ast.arg)}
             self.assertFalse(bound & (imported | classes), path.name)
+            caught = {node.name for node in ast.walk(tree) if isinstance(node, ast.ExceptHandler)} - {None}
+            self.assertFalse(caught & (bound | imported | classes), path.name)
+            bound |= caught
             top = {node.name for node in tree.body if hasattr(node, "name")}
             self.assertFalse((bound | top) & set(dir(builtins)) - {"_"}, path.name)
             read = {node.id for node in ast.walk(tree) if isinstance(node, ast.Name) and isinstance(node.ctx, ast.Load)}
             self.assertFalse(read - bound - top - imported - set(BUILTINS), path.name)
             self.assertNotIn("_", read, path.name)
+
+    def test_words_and_names_that_are_not_used(self):
+        for path in FILES:
+            tree = ast.parse(path.read_text())
+            for node in ast.walk(tree):
+                names = [getattr(node, key) for key in ("id", "arg", "attr", "name") if hasattr(node, key)]
+                self.assertFalse([name for name in names if name in NAMES or name in WORDS], path.name)
+                if isinstance(node, (ast.FunctionDef, ast.ClassDef, ast.Module)) and ast.get_docstring(node):
+                    node.body[0].value.value = ""
+            for node in ast.walk(tree):
+                if isinstance(node, ast.Constant) and isinstance(node.value, str):
+                    self.assertFalse([word for word in WORDS if word in re.findall("\\w+", node.value)], path.name)
+
+    def test_stars_in_calls_stand_before_names(self):
+        for name, node in self.each(ast.Call):
+            for at, item in enumerate(node.args):
+                if isinstance(item, ast.Starred):
+                    self.assertIsInstance(item.value, (ast.Name, ast.Attribute), f"{name}:{node.lineno}")
+                    self.assertEqual(at, len(node.args) - 1, f"{name}:{node.lineno}")
 
     def test_methods(self):
         own = {node.name for _, node in self.each(ast.FunctionDef)}

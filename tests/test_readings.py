@@ -22,10 +22,15 @@ class Readings(Case):
     def test_small_readings(self):
         reading = Reading(5, (4, 0, 2), ((1,), ()))
         # the coefficient of x ** 1 in the remainder, divided by 2
-        self.same([reading(((0, 1), ())), reading(((3, 4), (1,))), reading(((2,), ())), reading(((0, 0, 1), (1,)))],
-                  [3, 2, 0, 0])
-        self.same([reading(other=((0, 0, 0, 1), ())), reading(((), ()))], [4, 0])
-        self.same(Reading(5, (0, 1), ((1,),))(((4, 1),)), 4)
+        rows = [((0, 1), ()), ((3, 4), (1,)), ((2,), ()), ((0, 0, 1), (1,))]
+        self.same([reading.reading(row) for row in rows], [3, 2, 0, 0])
+        self.same([reading.reading(other=((0, 0, 0, 1), ())), reading.reading(((), ()))], [4, 0])
+        self.same(Reading(5, (0, 1), ((1,),)).reading(((4, 1),)), 4)
+
+    def test_a_call_reads_the_same(self):
+        reading = Reading(5, (4, 0, 2), ((1,), ()))
+        self.same([reading(((0, 1), ())), reading(other=((0, 0, 0, 1), ()))], [3, 4])
+        self.raises(InvalidRow, {"at": 0}, reading, ((1,),))
 
     def test_drawn_readings_by_their_definition(self):
         draw = drawing(291)
@@ -37,9 +42,9 @@ class Readings(Case):
             _, rest = divided(prime, product_of(prime, one, other), form)
             degree = len(form) - 1
             wanted = rest[degree - 1] if degree > 0 and len(rest) >= degree else 0
-            found = Reading(prime, form, one)(other)
+            found = Reading(prime, form, one).reading(other)
             self.same(found, wanted * inverse(prime, form[-1]) % prime)
-            self.same(Reading(prime, form, other)(one), found)
+            self.same(Reading(prime, form, other).reading(one), found)
             # the number at 1 / x of the fraction is that of the quotient by the form of x times the product
             quotient, _ = divided(prime, raised(product_of(prime, one, other), 1), form)
             self.same(found, quotient[0] if quotient else 0)
@@ -50,17 +55,17 @@ class Readings(Case):
             prime = draw.choice(PRIMES)
             reading = Reading(prime, drawn_form(draw, prime, 4) or (0, 1), drawn_row(draw, prime, 3, 4))
             one, other = drawn_row(draw, prime, 3, 6), drawn_row(draw, prime, 3, 6)
-            self.same(reading(add_rows(prime, one, other)), (reading(one) + reading(other)) % prime)
-            self.same(reading(row_times(prime, one, (prime - 1,))), -reading(one) % prime)
+            self.same(reading.reading(add_rows(prime, one, other)), (reading.reading(one) + reading.reading(other)) % prime)
+            self.same(reading.reading(row_times(prime, one, (prime - 1,))), -reading.reading(one) % prime)
 
     def test_constant_forms_read_0(self):
         for by in ((1,), (3,)):
             reading = Reading(5, by, ((1, 2, 3), (4,)))
-            self.same([reading(((0, 0, 1), (1,))), reading(((1,), ()))], [0, 0])
+            self.same([reading.reading(((0, 0, 1), (1,))), reading.reading(((1,), ()))], [0, 0])
             self.same(reads_zero(reading, all_rows(5, (0, 0))), True)
 
     def test_zero_rows_read_0(self):
-        self.same(Reading(5, (0, 0, 1), ((), ()))(((1, 1, 1), (2,))), 0)
+        self.same(Reading(5, (0, 0, 1), ((), ())).reading(((1, 1, 1), (2,))), 0)
 
     def test_errors_in_their_order(self):
         for value in [*WRONG, 0, -5, 4, 101, 10 ** 5000]:
@@ -74,8 +79,9 @@ class Readings(Case):
     def test_wrong_rows(self):
         reading = Reading(5, (0, 0, 1), ((1,), (2,)))
         for value in [*NO_ROWS, ((1,),), ((1,), (1,), (1,))]:
+            self.raises(InvalidRow, {"at": 0}, reading.reading, value)
             self.raises(InvalidRow, {"at": 0}, reading, value)
-        self.same([reading.by, reading.row, reading(((0, 1), ()))], [(0, 0, 1), ((1,), (2,)), 1])
+        self.same([reading.by, reading.row, reading.reading(((0, 1), ()))], [(0, 0, 1), ((1,), (2,)), 1])
 
 
 class ReadsZero(Case):
@@ -86,7 +92,7 @@ class ReadsZero(Case):
             form = least_form(span)
             found = opposite(span)
             reading = Reading(span.prime, form, row_in(draw, found))
-            self.same([reads_zero(reading, span), reading(row_in(draw, span))], [True, 0])
+            self.same([reads_zero(reading, span), reading.reading(row_in(draw, span))], [True, 0])
             other = Reading(span.prime, form, drawn_row(draw, span.prime, span.places, 3))
             self.same(reads_zero(other, span), other.row in found)
 
@@ -97,7 +103,8 @@ class ReadsZero(Case):
             span = thin_span(draw, (2, 3))
             form = drawn_form(draw, span.prime, 3) or (0, 1)
             reading = Reading(span.prime, form, drawn_row(draw, span.prime, span.places, 2))
-            read = [reading(row_times(span.prime, row, raised((1,), power))) for row in span.key() for power in range(6)]
+            read = [reading.reading(row_times(span.prime, row, raised((1,), power)))
+                    for row in span.key() for power in range(6)]
             self.same(reads_zero(reading=reading, span=span), not any(read))
             seen[not any(read)] += 1
         self.assertGreater(min(seen.values()), 20)
@@ -106,7 +113,7 @@ class ReadsZero(Case):
         # it reads 0 at the key row, but not at x times the key row
         span = Span(5, (0,), [((1,),)])
         reading = Reading(5, (0, 0, 1), ((1,),))
-        self.same([reading(((1,),)), reading(((0, 1),)), reads_zero(reading, span)], [0, 1, False])
+        self.same([reading.reading(((1,),)), reading.reading(((0, 1),)), reads_zero(reading, span)], [0, 1, False])
         self.same(reads_zero(reading, Span(5, (0,))), True)
 
     def test_unlike(self):
