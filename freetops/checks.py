@@ -1,7 +1,7 @@
 """Checks of arguments that several modules share. Each raises the error of the first fault."""
 
 from freetops.errors import InvalidLifts, InvalidNumber, InvalidPoint, InvalidRow, LowRank, NotPrime, SamePoint, TooMany
-from freetops.numbers import is_any_number, is_number, is_prime, is_residue
+from freetops.numbers import are_residues, is_any_number, is_number, is_prime
 from freetops.rows import is_row
 
 MOST_LISTED = 4096
@@ -56,7 +56,7 @@ def check_pairs(prime, pairs):
     if not isinstance(pairs, (list, tuple)):
         raise InvalidPoint(-1)
     for at, pair in enumerate(pairs):
-        if not isinstance(pair, tuple) or len(pair) != 2 or not all([is_residue(prime, item) for item in pair]):
+        if not are_residues(prime, 2, pair):
             raise InvalidPoint(at)
     check_different(pairs)
 

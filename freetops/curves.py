@@ -6,7 +6,7 @@ from freetops.division import divisor_of, divisor_with
 from freetops.errors import InvalidNumber, InvalidPoint, InvalidRow, InvalidTable, NotOff, NotWhole, Singular, Still
 from freetops.formpoints import digits_at, roots
 from freetops.forms import add, form_of, is_form, scaled, subtract, value_at
-from freetops.numbers import inverse, is_residue
+from freetops.numbers import are_residues, inverse, is_residue
 from freetops.rows import product_of
 from freetops.spans import Span
 from freetops.tables import determinant
@@ -118,9 +118,7 @@ def standard(prime, point):
 
 def is_point(prime, places, value):
     """Whether any value is a tuple of so many residues that are not all 0."""
-    if not isinstance(value, tuple) or len(value) != places:
-        return False
-    return all([is_residue(prime, item) for item in value]) and first_index(value) is not None
+    return are_residues(prime, places, value) and first_index(value) is not None
 
 
 def products_with(curve, point):
@@ -140,7 +138,7 @@ def _check_table(prime, places, table):
     if not isinstance(table, (list, tuple)) or len(table) != places:
         raise InvalidTable(-1)
     for at, row in enumerate(table):
-        if not isinstance(row, tuple) or len(row) != places or not all([is_residue(prime, item) for item in row]):
+        if not are_residues(prime, places, row):
             raise InvalidTable(at)
     constants = [tuple([form_of(prime, [item]) for item in row]) for row in table]
     if determinant(prime, constants) == ():

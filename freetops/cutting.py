@@ -1,6 +1,6 @@
 """What conditions do to rows that are apart: the rows of a cut span, and the leads that are raised."""
 
-from freetops.formpoints import digits_at
+from freetops.formpoints import first_digits
 from freetops.numbers import inverse
 from freetops.rows import level_of, product_of, row_times, subtract_rows
 
@@ -8,8 +8,7 @@ from freetops.rows import level_of, product_of, row_times, subtract_rows
 def condition_digits(prime, row, condition):
     """As many residues as the condition is deep; the row meets it if all of them are 0."""
     point, weights, depth = condition
-    digits = digits_at(prime, product_of(prime, row, weights), point)[:depth]
-    return digits + (0,) * (depth - len(digits))
+    return tuple(first_digits(prime, product_of(prime, row, weights), point, depth))
 
 
 def cut_rows(prime, lifts, rows, condition):

@@ -6,12 +6,12 @@ from freetops.growth import Growth
 from freetops.letters import LetterRoom
 from freetops.numbers import is_name
 from freetops.points import PointRoom
+from freetops.questions import KINDS
 from freetops.spans import Span
 
 MOST_HOLDINGS = 24
 DEED_LENGTHS = {"span": 4, "letters": 3, "points": 4, "curve": 3, "put": 3, "cut": 3, "lift": 4, "column": 3,
                 "point": 4, "lose": 3, "drop": 2}
-NEW_WORDS = ("span", "letters", "points", "curve")
 CHANGED_KINDS = {"put": "span", "cut": "span", "lift": "span", "column": "letters", "point": "points",
                  "lose": "points"}
 
@@ -60,7 +60,8 @@ def holdings_behind(prime, holdings, deed):
     word = deed[0]
     name = deed[1]
     found = {other: holdings[other] for other in holdings}
-    if word in NEW_WORDS:
+    # the words for new holdings are their kinds
+    if word in KINDS:
         _check_new(holdings, name)
         found[name] = _new_holding(prime, deed)
     elif word == "drop":

@@ -7,12 +7,17 @@ from freetops.numbers import inverse
 
 def digits_at(prime, form, point):
     """The digits of a form at a residue, as a form."""
-    rest = list(form)
+    return form_of(prime, first_digits(prime, form, point, len(form)))
+
+
+def first_digits(prime, form, point, many):
+    """The list of the first digits of a form at a residue, as many of them as are asked for."""
+    rest = list(form) + [0] * (many - len(form))
     # each round divides by x - point and leaves the remainder, the next digit, at the index low
-    for low in range(len(rest)):
+    for low in range(many):
         for at in range(len(rest) - 2, low - 1, -1):
             rest[at] = (rest[at] + point * rest[at + 1]) % prime
-    return form_of(prime, rest)
+    return rest[:many]
 
 
 def from_digits(prime, digits, point):

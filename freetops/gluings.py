@@ -10,6 +10,7 @@ from freetops.tables import determinant, turned_table
 from freetops.twoinverse import inverse_twos
 from freetops.twosided import ZERO, determinant_two, is_downward, is_two_sided, lowest_power
 from freetops.twosided import multiply_two, multiply_twos, raised_by, two_sided
+from freetops.words import with_spaces
 
 
 class Gluing:
@@ -105,7 +106,7 @@ class Gluing:
         return self._goes_with(other) and self._table == other._table
 
     def __repr__(self):
-        return f"Gluing(p {self.prime}, heights {_with_spaces(self.heights)})"
+        return f"Gluing(p {self.prime}, heights {with_spaces(self.heights)})"
 
 
 def two_sided_table(table):
@@ -148,10 +149,6 @@ def _check_table(prime, table):
     for at, row in enumerate(table):
         if not _is_row_of_twos(prime, len(table), row):
             raise InvalidTable(at)
-
-
-def _with_spaces(numbers):
-    return " ".join([str(number) for number in numbers])
 
 
 def _row_of_products(prime, one, other):

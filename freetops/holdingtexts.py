@@ -2,6 +2,7 @@
 
 from freetops.deeds import kind_name
 from freetops.formtexts import write_row
+from freetops.words import with_spaces
 
 
 def bench_text(prime, holdings):
@@ -15,15 +16,11 @@ def bench_text(prime, holdings):
 def _holding_lines(name, holding):
     kind = kind_name(holding)
     if kind == "span":
-        return [f"span {name} {_words(holding.lifts)}\n"] + [f"row {write_row(row)}\n" for row in holding.key()]
+        return [f"span {name} {with_spaces(holding.lifts)}\n"] + [f"row {write_row(row)}\n" for row in holding.key()]
     if kind == "letters":
-        lines = [f"column {_words(column)}\n" for column in holding.columns()]
+        lines = [f"column {with_spaces(column)}\n" for column in holding.columns()]
         return [f"letters {name} {holding.width}\n"] + lines
     if kind == "points":
-        lines = [f"point {point} {_words(column)}\n" for point, column in holding.heard()]
+        lines = [f"point {point} {with_spaces(column)}\n" for point, column in holding.heard()]
         return [f"points {name} {holding.width} {holding.bound}\n"] + lines
     return [f"curve {name} {write_row(holding.forms)}\n"]
-
-
-def _words(numbers):
-    return " ".join([str(number) for number in numbers])

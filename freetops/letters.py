@@ -3,7 +3,7 @@
 from freetops.checks import check_prime
 from freetops.errors import Full, InvalidColumn, InvalidNumber, NothingLeft, Unlike
 from freetops.forms import form_of, raised
-from freetops.numbers import is_number, is_residue
+from freetops.numbers import are_residues, is_number
 from freetops.rows import row_times, unit_row
 from freetops.spans import Span
 
@@ -21,7 +21,7 @@ class LetterRoom:
         if not isinstance(columns, (list, tuple)):
             raise InvalidColumn(-1)
         for at, column in enumerate(columns):
-            if not _is_column(prime, width, column):
+            if not are_residues(prime, width, column):
                 raise InvalidColumn(at)
         if len(columns) > MOST_COLUMNS:
             raise Full(MOST_COLUMNS)
@@ -41,7 +41,7 @@ class LetterRoom:
 
     def put(self, *letters):
         """Puts in the column of these letters, one for each letter row."""
-        if not _is_column(self.prime, self.width, letters):
+        if not are_residues(self.prime, self.width, letters):
             raise InvalidColumn(0)
         if len(self._columns) >= MOST_COLUMNS:
             raise Full(MOST_COLUMNS)
@@ -103,13 +103,6 @@ class LetterRoom:
 
     def __repr__(self):
         return f"LetterRoom(p {self.prime}, width {self.width}, {len(self._columns)} columns)"
-
-
-def _is_column(prime, width, value):
-    """Whether any value is a tuple of so many residues."""
-    if not isinstance(value, tuple) or len(value) != width:
-        return False
-    return all([is_residue(prime, letter) for letter in value])
 
 
 def _span_of(prime, width, columns):

@@ -35,6 +35,13 @@ def is_residue(prime, value):
     return is_number(value, 0, prime - 1)
 
 
+def are_residues(prime, many, value):
+    """Whether any value is a tuple of so many residues."""
+    if not isinstance(value, tuple) or len(value) != many:
+        return False
+    return all([is_residue(prime, item) for item in value])
+
+
 def inverse(prime, residue):
     """The residue whose product with a residue other than 0 is 1."""
     high = prime

@@ -3,7 +3,7 @@
 from freetops.checks import check_different, check_number, check_prime
 from freetops.errors import Full, InvalidColumn, InvalidNumber, InvalidPoint, SamePoint, UnknownPoint
 from freetops.formpoints import form_through, vanishing_at
-from freetops.numbers import is_residue
+from freetops.numbers import are_residues, is_residue
 from freetops.rows import row_times, unit_row
 from freetops.spans import Span
 
@@ -43,7 +43,7 @@ class PointRoom:
             raise InvalidNumber(point)
         if point in self:
             raise SamePoint(point)
-        if not _is_column(self.prime, self.width, letters):
+        if not are_residues(self.prime, self.width, letters):
             raise InvalidColumn(0)
         if len(self._heard) >= MOST_HEARD:
             raise Full(MOST_HEARD)
@@ -95,15 +95,8 @@ class PointRoom:
         return f"PointRoom(p {self.prime}, width {self.width}, bound {self.bound}, {len(self._heard)} points)"
 
 
-def _is_column(prime, width, value):
-    """Whether any value is a tuple of so many residues."""
-    if not isinstance(value, tuple) or len(value) != width:
-        return False
-    return all([is_residue(prime, letter) for letter in value])
-
-
 def _is_heard(prime, width, value):
     """Whether any value is a pair of a residue and a column."""
     if not isinstance(value, tuple) or len(value) != 2:
         return False
-    return is_residue(prime, value[0]) and _is_column(prime, width, value[1])
+    return is_residue(prime, value[0]) and are_residues(prime, width, value[1])

@@ -4,7 +4,7 @@ from freetops.checks import check_number, listed_many
 from freetops.division import power_remainder
 from freetops.errors import Undetermined
 from freetops.forms import raised
-from freetops.numbers import is_residue
+from freetops.numbers import are_residues
 from freetops.vectors import all_sums, combined_vectors, echelon, least_sum
 
 MOST_FAR = 10 ** 30
@@ -14,7 +14,7 @@ def is_rule(room, value):
     """Whether any value is a rule of the room, of whichever order."""
     if not isinstance(value, tuple) or not 1 <= len(value) <= len(room) + 1:
         return False
-    if not all([is_residue(room.prime, item) for item in value]) or value[0] != 1:
+    if not are_residues(room.prime, len(value), value) or value[0] != 1:
         return False
     columns = room.columns()
     behind = range(len(value) - 1, len(columns))
@@ -71,12 +71,9 @@ def far_column(room, number):
     rule, changes = _rule_and_changes(room, room.least_order)
     if changes:
         raise Undetermined(len(changes))
-    columns = room.columns()
-    if number < len(columns):
-        return columns[number]
     # the rule read backward is a form modulo which powers of x stand for columns
     power = power_remainder(room.prime, (0, 1), number, tuple(reversed(rule)))
-    return combined_vectors(room.prime, room.width, power, columns)
+    return combined_vectors(room.prime, room.width, power, room.columns())
 
 
 def _rule_and_changes(room, order):

@@ -3,7 +3,7 @@
 from freetops.answers import answers
 from freetops.deeds import holding_named, holding_of_kind, kind_name
 from freetops.formtexts import read_row, write_row
-from freetops.words import is_plain_number
+from freetops.words import is_plain_number, with_spaces
 
 NONE = "none"
 UNKNOWN = "unknown"
@@ -43,7 +43,7 @@ def _answer_to_word(holdings, word, name):
 def _told_heights(holding):
     # a curve has no heights of its own
     shown = holding.lines() if kind_name(holding) == "curve" else holding
-    return " ".join([str(height) for height in shown.heights]) if shown.heights else NONE
+    return with_spaces(shown.heights) if shown.heights else NONE
 
 
 def _told_rest(span, text):

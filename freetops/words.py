@@ -28,6 +28,11 @@ def is_signed_number(word):
     return is_plain_number(word)
 
 
+def with_spaces(numbers):
+    """The text of some numbers, with single spaces between."""
+    return " ".join([str(number) for number in numbers])
+
+
 def form_fault(prime, text):
     """What is wrong with the text of a form: the word form or residue; None if nothing is."""
     words = text.split(" ")

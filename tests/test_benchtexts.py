@@ -119,7 +119,8 @@ class Read(Case):
             self.behind(ahead, ["bench 5", "bench 6", "", " ", "x", "holding e 1", "Span e 0", "span", "span e", "span e ", "letters", "letters e",
                                 "letters e ", "points e", "points e 1", "points e 1 ", "points e 1 1 1", "letters e 1 1", "curve", "curve e",
                                 "curve e ", "spane 0", "span  e 0", "span e  0", " span e 0", "span e 0 ", "letters e 1 ", "curve e 0 1, 1 ",
-                                "letters e  1", "points e 1  1", "curve e  0 1, 1", "undo", "names", "lettersb 1"], "form")
+                                "letters e  1", "points e 1  1", "curve e  0 1, 1", "undo", "names", "lettersb 1", "x e 1", "x e 1 1",
+                                "lists e 1 1", "bench e 1 1"], "form")
             for name in ("E", "e1", "eeeeeee", "", "e-", "1", "e,", "-"):
                 self.behind(ahead, [f"span {name} 0", f"letters {name} 1", f"points {name} 1 1", f"curve {name} 0 1, 1"], "form")
 

@@ -98,6 +98,11 @@ class GluedAlike(Case):
                 seen += not found
         self.assertGreater(seen, 600)
 
+    def test_a_determinant_with_a_power_of_x(self):
+        below = [((-1, (1,)), ZERO), (ZERO, (-1, (1,)))]
+        self.same(multiply_twos(5, GLUING.table(), below), GLUING.moved(-1).table())
+        self.same(is_alike_pair(GLUING, GLUING.moved(-1), (unit_table_of(2), below)), False)
+
     def test_powers_far_from_0(self):
         plain = Gluing(5, unit_twos(2))
         for power in (-10 ** 9 + 1, -10 ** 30):

@@ -67,6 +67,15 @@ class Lists(Case):
         self.raises(Beyond, {"met": least - 1, "height": min(heights[0])}, forms_meeting, 7, PAIRS, bound=2, met=least - 1)
         self.raises(Beyond, {"met": 1, "height": 2}, forms_meeting, 7, PAIRS, bound=2, met=1)
 
+    def test_the_sixth_power_is_tried(self):
+        draw = drawing(574)
+        pairs = [(c, draw.randrange(61)) for c in range(61)]
+        heights = heights_of(61, pairs, 2, 1)
+        self.assertLess(heights[5], heights[4])
+        # only the last power is low enough, and it counts for the height that is told, too
+        self.same(forms_meeting(61, pairs, bound=2, met=heights[4]), all_meeting(61, pairs, 2, heights[4]))
+        self.raises(Beyond, {"met": 1, "height": heights[5]}, forms_meeting, 61, pairs, bound=2, met=1)
+
     def test_no_pairs_and_pairs_at_all_residues(self):
         for met in (1, 2, 10 ** 5000):
             self.same([forms_meeting(5, [], bound=20, met=met), forms_meeting(2, (), bound=1, met=met)], [[], []])

@@ -1,9 +1,9 @@
 import itertools
 import unittest
 
-from cases import WRONG, Case, bent, drawing, drawn_row, row_in, thin_span
+from cases import WRONG, Case, bent, drawing, drawn_row, full_span, row_in, thin_span
 from freetops.bench import Bench
-from freetops.curves import Curve
+from freetops.curves import Curve, products_with
 from freetops.errors import (InvalidNumber, InvalidPoint, InvalidQuestion, InvalidRow, LowRank, UnknownKept, UnknownName, WrongKind)
 from freetops.forms import add, form_of, is_form, multiply
 from freetops.near import is_near_paper
@@ -174,6 +174,31 @@ class Papers(Case):
                     seen[paper[0]] += 1
         self.assertGreater(min(seen.values()), 40)
 
+    def test_any_right_paper_counts(self):
+        draw = drawing(675)
+        seen = {"reading": 0, "off": 0}
+        for _ in range(40):
+            curve = drawn_curve(draw, (3, 5, 7), 3)
+            span = full_span(draw, (curve.prime,), places=2)
+            bench = bench_with(curve.prime, *deeds_of("c", curve), *deeds_of("s", span))
+            question = ("near", "s", drawn_row(draw, span.prime, 2, 4), -3)
+            word, form, u = bench.paper(question)
+            if word == "reading":
+                other = (word, form, row_times(span.prime, u, (2,)))
+                self.same([bench.is_right(question, other), other == bench.paper(question)], [True, False])
+                seen[word] += 1
+            question = ("visit", "c", (1, draw.randrange(3), draw.randrange(3)))
+            word, one = bench.paper(question)
+            if word == "off":
+                # with multipliers that make the zero form of the products added to them
+                products = products_with(curve, question[2])
+                zero = (products[1], tuple(-number % curve.prime for number in products[0]))
+                other = tuple(add(curve.prime, a, b) for a, b in zip(one, zero))
+                self.same([bench.is_right(question, (word, other)), other == one], [True, False])
+                self.same(bench.is_right(question, (word, zero)), False)
+                seen[word] += 1
+        self.assertGreater(min(seen.values()), 10)
+
     def test_bent_papers(self):
         bench = full_bench()
         bench.do(("column", "b", (0,)), ("column", "b", (2,)), ("span", "w", (0, 3), [((1,), ()), ((), (1,))]), ("span", "n", (0, 1), ()))
@@ -214,7 +239,7 @@ class WrongQuestions(Case):
         before = state(bench)
         self.raises(error, worth, bench.paper, question)
         self.raises(error, worth, bench.keep, question)
-        for value in (None, ("in", ()), ("open", (0, 1), ((1,), ()))):
+        for value in (None, ("in", ()), ("open", (0, 1), ((1,), ())), ("off", ((1,), (1,))), ("rule", (1,))):
             self.raises(error, worth, bench.is_right, question, value)
         self.same(state(bench), before)
 
